@@ -25,3 +25,8 @@ def is_rising(value, end):
             return False
         lowest = number + 1
     return True
+
+
+def is_pair(value):
+    """True for a tuple of two."""
+    return type(value) is tuple and len(value) == 2
